@@ -1,0 +1,1 @@
+"""Patterns: leftmost, longest, captures by one told order."""
