@@ -2,6 +2,7 @@
 
 import unittest
 
+from helping import Unchangeable
 from toldpatterns.patterns import judge
 
 SIGNS = b"|*+?{}.^$\\[]()<>"
@@ -11,16 +12,6 @@ SCALAR_EDGES = (
     0x0, 0x7F, 0x80, 0x7FF, 0x800, 0xFFF, 0x1000, 0xCFFF, 0xD000, 0xD7FF,
     0xE000, 0xFFFF, 0x10000, 0x3FFFF, 0x40000, 0xFFFFF, 0x100000, 0x10FFFF,
 )
-
-
-class Unchangeable(list):
-    """A list that any change, even one that's taken back, makes fail."""
-
-    def refuse(self, *rest, **named):
-        raise AssertionError("what was handed in is changed")
-
-    append = extend = insert = pop = remove = clear = sort = reverse = refuse
-    __setitem__ = __delitem__ = __iadd__ = __imul__ = refuse
 
 
 def one_letter_names(count):

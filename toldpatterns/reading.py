@@ -2,6 +2,8 @@
 
 from toldpatterns.faults import CANNOT_STAND, ENDS_IN_WRONG_ORDER, ENDS_TOO_SOON, NAME_REFUSED
 from toldpatterns.faults import NUMBER_OUT_OF_RANGE, TOO_MANY_ATOMS, TOO_MANY_OPEN, Fault
+from toldpatterns.parts import Capture, OneValue, Standpoint, choice_of, repetition_of, row_of
+from toldpatterns.ranges import every_value, is_just_one, just_one, listed_ranges
 from toldpatterns.scalars import scalar_at
 
 MOST_TIMES = 20
@@ -23,36 +25,65 @@ END_ESCAPES = "|*+?{}.^$\\[]()<>-nt"
 PART_ESCAPES = "|*+?{}.^$\\[]()<>-ntdwsDWS"
 ATOM_ESCAPES = "|*+?{}.^$\\[]()<>-ntdwsDWSb"
 
-VALUELESS_ESCAPES = "dwsDWSb"
+LISTED_ESCAPES = "dwsDWS"
 CONTROL_VALUES = {"n": 10, "t": 9}
 
+# The least and the most times that a sign of repetition stands for; None: no bound.
+REPETITIONS = {"*": (0, None), "+": (1, None), "?": (0, 1)}
 
-def escape_value(sign):
-    """The one scalar value that the sign behind a backslash stands for; None if it's not one."""
-    if sign in VALUELESS_ESCAPES:
-        return None
-    return CONTROL_VALUES.get(sign, ord(sign))
+
+def escape_ranges(sign):
+    """What the sign behind a backslash stands for, if that's values."""
+    if sign in LISTED_ESCAPES:
+        return listed_ranges(sign)
+    return just_one(CONTROL_VALUES.get(sign, ord(sign)))
+
+
+class Pattern:
+    """A pattern without a fault: where its names stand, and what it is made of."""
+
+    def __init__(self, names, body):
+        # The first byte's place and the length of each, in the order of their opening signs.
+        self.names = names
+        self.body = body
 
 
 class Bracket:
-    """An open bracket, or the outside of them all: what closes it, and its atoms written out."""
+    """An open bracket, or the outside of them all: what closes it, its rows yet, and its atoms written out."""
 
-    def __init__(self, closing):
+    def __init__(self, closing, number):
         self.closing = closing
+        # That of its name; None if it has none.
+        self.number = number
+        self.rows = [[]]
         self.atoms = 0
-        # None: no sign of repetition may come now.
-        self.last_atom = None
+        # How many atoms the last step has, written out; None: no sign of repetition may come now.
+        self.last_atoms = None
 
-    def add_atom(self, atoms):
+    def add_atom(self, part, atoms):
+        self.rows[-1].append(part)
         self.atoms += atoms
-        self.last_atom = atoms
+        self.last_atoms = atoms
 
-    def repeat_atom(self, times):
-        self.atoms += (times - 1) * self.last_atom
-        self.last_atom = None
+    def repeat_atom(self, least, most):
+        times = most
+        if most is None:
+            times = max(least, 1)
+        body = self.rows[-1].pop()
+        self.rows[-1].append(repetition_of(body, self.last_atoms, least, most))
+        self.atoms += (times - 1) * self.last_atoms
+        self.last_atoms = None
 
     def end_row(self):
-        self.last_atom = None
+        self.rows.append([])
+        self.last_atoms = None
+
+    def made_part(self):
+        """The part of the pattern that it has become, when it's closed."""
+        choice = choice_of([row_of(steps) for steps in self.rows])
+        if self.number is None:
+            return choice
+        return Capture(self.number, choice)
 
 
 class Reader:
@@ -63,7 +94,7 @@ class Reader:
         self.place = 0
         self.names = []
         # Nothing closes the outside.
-        self.brackets = [Bracket("")]
+        self.brackets = [Bracket("", None)]
 
     def need_byte(self):
         if self.place == len(self.given):
@@ -89,44 +120,57 @@ class Reader:
             raise Fault(CANNOT_STAND, self.place)
         found = scalar_at(self.given, self.place)
         self.place = found[1]
-        return found[0]
+        return just_one(found[0])
 
     def take_escape(self, escapes):
         self.take("\\")
-        return escape_value(self.take(escapes))
+        return self.take(escapes)
 
     def take_one(self, escapes):
-        """Goes behind a plain value of sets or an escape; its value, or None if it's not one."""
+        """Goes behind a plain value of sets or an escape; the values it has."""
         if self.at("\\"):
-            return self.take_escape(escapes)
+            return escape_ranges(self.take_escape(escapes))
         return self.take_plain(SET_SIGNS)
 
     def take_part(self):
         first_place = self.place
         first = self.take_one(PART_ESCAPES)
-        if first is not None and self.at("-"):
-            self.take("-")
-            if first > self.take_one(END_ESCAPES):
-                raise Fault(ENDS_IN_WRONG_ORDER, first_place)
+        if not is_just_one(first) or not self.at("-"):
+            return first
+        self.take("-")
+        last = self.take_one(END_ESCAPES)
+        if first[0][0] > last[0][1]:
+            raise Fault(ENDS_IN_WRONG_ORDER, first_place)
+        return [(first[0][0], last[0][1])]
 
     def take_set(self):
         self.take("[")
-        if self.at("^"):
+        inverted = self.at("^")
+        if inverted:
             self.take("^")
-        self.take_part()
+        ranges = self.take_part()
         while not self.at("]"):
-            self.take_part()
+            ranges = ranges + self.take_part()
         self.take("]")
+        return OneValue(ranges, inverted)
+
+    def take_escaped_atom(self):
+        sign = self.take_escape(ATOM_ESCAPES)
+        if sign == "b":
+            return Standpoint(sign)
+        return OneValue(escape_ranges(sign), False)
 
     def take_single_atom(self):
         if self.at("["):
-            self.take_set()
-        elif self.at("\\"):
-            self.take_escape(ATOM_ESCAPES)
-        elif self.at(".^$"):
-            self.take(".^$")
-        else:
-            self.take_plain(SIGNS)
+            return self.take_set()
+        if self.at("\\"):
+            return self.take_escaped_atom()
+        if self.at("^$"):
+            return Standpoint(self.take("^$"))
+        if self.at("."):
+            self.take(".")
+            return OneValue(every_value(), False)
+        return OneValue(self.take_plain(SIGNS), False)
 
     def take_number(self, least):
         first_place = self.place
@@ -140,27 +184,28 @@ class Reader:
         return number
 
     def take_braces(self):
-        """How many times the atom before them stands there when it's written out."""
+        """The least and the most times that they stand for; None: no bound."""
         self.take("{")
         least = self.take_number(0)
         if self.take(",}") == "}":
-            return least
+            return (least, least)
         if self.at("}"):
             self.take("}")
-            return max(least, 1)
+            return (least, None)
         most = self.take_number(least)
         self.take("}")
-        return most
+        return (least, most)
+
+    def take_times(self):
+        if self.at("{"):
+            return self.take_braces()
+        return REPETITIONS[self.take("*+?")]
 
     def take_repetition(self):
-        if self.brackets[-1].last_atom is None:
+        if self.brackets[-1].last_atoms is None:
             raise Fault(CANNOT_STAND, self.place)
-        times = 1
-        if self.at("{"):
-            times = self.take_braces()
-        else:
-            self.take("*+?")
-        self.brackets[-1].repeat_atom(times)
+        times = self.take_times()
+        self.brackets[-1].repeat_atom(times[0], times[1])
 
     def keep_name(self, first_place):
         length = self.place - first_place
@@ -184,16 +229,16 @@ class Reader:
         # The outside, which is no open bracket, is one of the brackets.
         if len(self.brackets) - 1 == MOST_OPEN:
             raise Fault(TOO_MANY_OPEN, self.place)
-        closing = ")"
-        if self.take("(<") == "<":
-            self.take_name()
-            closing = ">"
-        self.brackets.append(Bracket(closing))
+        if self.take("(<") == "(":
+            self.brackets.append(Bracket(")", None))
+            return
+        self.take_name()
+        self.brackets.append(Bracket(">", len(self.names) - 1))
 
     def take_closing(self):
         self.take(self.brackets[-1].closing)
         closed = self.brackets.pop()
-        self.brackets[-1].add_atom(closed.atoms)
+        self.brackets[-1].add_atom(closed.made_part(), closed.atoms)
 
     def take_next(self):
         """Goes behind the next sign, single atom or repetition."""
@@ -207,20 +252,20 @@ class Reader:
         elif self.at("*+?{"):
             self.take_repetition()
         else:
-            self.take_single_atom()
-            self.brackets[-1].add_atom(1)
+            self.brackets[-1].add_atom(self.take_single_atom(), 1)
 
-    def finish(self):
+    def made_pattern(self):
+        """The pattern, when there's nothing behind the place."""
         if len(self.brackets) > 1:
             raise Fault(ENDS_TOO_SOON, self.place)
         if self.brackets[0].atoms > MOST_ATOMS:
             raise Fault(TOO_MANY_ATOMS, 0)
+        return Pattern(self.names, self.brackets[0].made_part())
 
 
-def read_names(given):
-    """The first byte's place and the length of each name of a pattern, in their order."""
+def read_pattern(given):
+    """The pattern that the bytes are; if they are none, its first fault is raised."""
     reader = Reader(given)
     while reader.place < len(given):
         reader.take_next()
-    reader.finish()
-    return reader.names
+    return reader.made_pattern()

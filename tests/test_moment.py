@@ -1,0 +1,82 @@
+"""Each call answers within a moment, however many ways there are, and lies only so deep within itself."""
+
+import sys
+import unittest
+
+from helping import within
+from toldpatterns.patterns import find, whole
+
+# A moment is far shorter; this is for slow machines.
+MOMENT = 8
+
+LONG = b"a" * 128
+
+WAYS_WITHOUT_END = (
+    b"(a*)*", b"((a|a)*)*", b"(a?){20}(a{0,20}){0,8}", b"(a*){20}", b"((a*)*|a|(a|aa)*)*", b"(((((a*)*)*)*)*)*",
+    b"(a*a*)*a*(a|aa|aaa)*", b"(a?){20}(a?){20}(a?){20}(a?){20}a*", b"(|a|aa){0,20}(|a)*", b".*" * 60,
+    b"(" * 40 + b"a" + b")*" * 40, b"(" * 40 + b"a" + b")+" * 40, b"(" * 24 + b"a?" + b"|)+" * 24,
+    b"(|" * 30 + b"a" + b")+" * 30, b"(" * 24 + b"a" + b"a?)*" * 24, b"(a|" * 24 + b"a" + b")*" * 24,
+)
+LARGE = (
+    b"a*" * 64, b"(a*){0,20}" * 10, b"(a+|){20}" * 10, b"(a*a*a*){0,20}" * 3, b"((a*){2}){2}" * 10,
+    b"(((((((a?){0,2}){0,2}){0,2}){0,2}){0,2}){0,2}){0,2}", b"(.{6}.*){0,20}", b"((a{0,20}){0,10}){0,1}",
+)
+
+
+def depth():
+    frame = sys._getframe()
+    count = 0
+    while frame is not None:
+        frame = frame.f_back
+        count += 1
+    return count
+
+
+class Moment(unittest.TestCase):
+
+    def both(self, pattern, text):
+        with self.subTest(pattern=pattern), within(MOMENT):
+            return (find(0, list(pattern), list(text)), whole(list(pattern), list(text)))
+
+    def test_where_none_of_the_ways_ends(self):
+        for pattern in WAYS_WITHOUT_END:
+            self.assertEqual(self.both(pattern + b"b", LONG), ([0], [0]))
+        self.assertEqual(self.both(b"<x a*><y a*><z a*>b", LONG), ([0], [0]))
+
+    def test_where_all_of_the_ways_end(self):
+        for pattern in (b"(a*)*", b"((a|a)*)*", b"(a{0,20}){0,8}a*") + WAYS_WITHOUT_END[3:] + LARGE:
+            spans = self.both(pattern, LONG)
+            self.assertEqual(spans, ([1, 0, 128], [1]), pattern)
+
+    def test_captures_of_ways_without_end(self):
+        answer = self.both(b"<x a*><y a*><z a*>b", LONG[:127] + b"b")
+        spans = [0, 127, 127, 127, 127, 127]
+        self.assertEqual(answer, ([1, 0, 128] + spans, [1] + spans))
+        answer = self.both(b"(<x (a|aa)*>|<y a>)*b", LONG[:127] + b"b")
+        self.assertEqual(answer, ([1, 0, 128, 0, 127, -1, -1], [1, 0, 127, -1, -1]))
+
+    def test_rounds_without_a_value_within_one_another(self):
+        empty = b"(" * 20 + b"<x >" + b"){20}" * 20
+        self.assertEqual(self.both(empty, b""), ([1, 0, 0, 0, 0], [1, 0, 0]))
+        self.assertEqual(self.both(empty, LONG), ([1, 0, 0, 0, 0], [0]))
+        self.assertEqual(self.both(b"(" * 19 + b"<x >|a{0}" + b"){9,}" * 19, b""), ([1, 0, 0, 0, 0], [1, 0, 0]))
+        self.assertEqual(self.both(b"(" * 24 + b"<x ^>" + b")*" * 24, LONG), ([1, 0, 0, -1, -1], [0]))
+        self.assertEqual(self.both(b"(" * 24 + b"<x ^>" + b")+" * 24, LONG), ([1, 0, 0, 0, 0], [0]))
+
+    def test_depth(self):
+        deepest = (
+            b"(" * 40 + b"a" + b")*" * 40, b"(|" * 30 + b"a" + b")*" * 30, b"(a" * 40 + b")" * 40,
+            b"(|a" * 25 + b")*" * 25, b"".join(b"<%c " % letter for letter in b"abcdefghijklmnop") + b">*" * 16,
+            b"(" * 40 + b")" * 40, b"a?" * 64,
+        )
+        limit = sys.getrecursionlimit()
+        sys.setrecursionlimit(depth() + 200)
+        try:
+            for pattern in deepest:
+                self.assertEqual(find(0, list(pattern), list(LONG))[:2], [1, 0])
+        finally:
+            sys.setrecursionlimit(limit)
+
+
+if __name__ == "__main__":
+    unittest.main()
