@@ -16,6 +16,11 @@ FILES = sorted(PACKAGE.glob("*.py"))
 TREES = {path.stem: ast.parse(path.read_text()) for path in FILES}
 NODES = [(file, node) for (file, tree) in TREES.items() for node in ast.walk(tree)]
 
+CALLS = {
+    "judge": "(p)", "name": "(k, p)", "whole": "(p, t)", "find": "(from_byte, p, t)", "all_of": "(p, t)",
+    "put": "(p, t, r)",
+}
+
 BARRED_WORDS = re.compile(
     r"\b(type|typing|typing_extensions|enum|Enum|IntEnum|StrEnum|Flag|IntFlag|Generic|Protocol|ABC|ABCMeta"
     r"|namedtuple|NamedTuple|TypedDict|TYPE_CHECKING|abstractmethod)\b|dataclass|overload|contextmanager"
@@ -42,6 +47,7 @@ BARRED_NODES = (
     ast.AsyncFunctionDef, ast.Await, ast.SetComp, ast.DictComp, ast.GeneratorExp, ast.NamedExpr, ast.Starred,
     ast.Div, ast.MatMult, ast.Set, ast.AnnAssign,
 )
+OWN_ERRORS = {"Fault", "Refusal"}
 OWN_VALUES = (str, int, list, dict, set, bytes, tuple)
 
 
@@ -72,8 +78,7 @@ def bound_at_top(tree):
 class Interface(unittest.TestCase):
 
     def test_calls_and_their_arguments(self):
-        calls = {"judge": "(p)", "name": "(k, p)", "whole": "(p, t)", "find": "(from_byte, p, t)"}
-        for (call, arguments) in calls.items():
+        for (call, arguments) in CALLS.items():
             self.assertEqual(str(inspect.signature(getattr(patterns, call))), arguments)
             self.assertEqual(getattr(patterns, call).__module__, "toldpatterns.patterns")
 
@@ -83,6 +88,7 @@ class Interface(unittest.TestCase):
             answers += [patterns.judge(p)] + [patterns.name(k, p) for k in (0, 2)]
             for t in ([], list(b"a"), list(b"bb"), [0xFF]):
                 answers += [patterns.whole(p, t)] + [patterns.find(from_byte, p, t) for from_byte in (-1, 0, 1)]
+                answers += [patterns.all_of(p, t)] + [patterns.put(p, t, list(r)) for r in (b"$0", b"$q", b"x" * 128)]
         for answer in answers:
             self.assertIs(type(answer), list)
             self.assertEqual({type(number) for number in answer}, {int})
@@ -135,7 +141,7 @@ class Files(unittest.TestCase):
             self.assertEqual(len(names), len(set(names)), file)
             self.assertTrue(set(names).isdisjoint(dir(builtins)), file)
             everywhere += [node.name for node in definitions(tree)]
-        for call in ("judge", "name", "whole", "find"):
+        for call in CALLS:
             self.assertEqual(everywhere.count(call), 1)
 
     def test_top_of_files(self):
@@ -175,9 +181,9 @@ class Statements(unittest.TestCase):
         for (file, node) in NODES:
             if isinstance(node, ast.Try):
                 self.assertEqual(node.finalbody, [])
-                self.assertEqual({handler.type.id for handler in node.handlers}, {"Fault"}, (file, node.lineno))
+                self.assertLessEqual({handler.type.id for handler in node.handlers}, OWN_ERRORS, (file, node.lineno))
             if isinstance(node, ast.Raise):
-                self.assertEqual(called(node.exc), "Fault", (file, node.lineno))
+                self.assertIn(called(node.exc), OWN_ERRORS, (file, node.lineno))
 
     def test_what_is_walked_at_once(self):
         allowed = []

@@ -4,10 +4,10 @@ import sys
 import unittest
 
 from helping import within
-from toldpatterns.patterns import find, whole
+from toldpatterns.patterns import all_of, find, put, whole
 
 # A moment is far shorter; this is for slow machines.
-MOMENT = 8
+MOMENT = 3
 
 LONG = b"a" * 128
 
@@ -20,6 +20,17 @@ WAYS_WITHOUT_END = (
 LARGE = (
     b"a*" * 64, b"(a*){0,20}" * 10, b"(a+|){20}" * 10, b"(a*a*a*){0,20}" * 3, b"((a*){2}){2}" * 10,
     b"(((((((a?){0,2}){0,2}){0,2}){0,2}){0,2}){0,2}){0,2}", b"(.{6}.*){0,20}", b"((a{0,20}){0,10}){0,1}",
+    b"(" * 20 + b"a*" + b"){20}" * 19 + b"){0}.*", b"(a*){20}" * 10,
+)
+
+SIXTEEN = b"".join(b"<%c >" % letter for letter in b"abcdefghijklmnop")
+
+# Rounds without a value, in many matches or many rounds.
+MANY_ROUNDS = (
+    b"((" + b"()" * 50 + b"\\b){20}){10}", b"(((" + b"()" * 48 + b"(|a)){20}){10})*", b"((" + SIXTEEN + b"\\b){20}){10}",
+    b"(((" + SIXTEEN + b"(|a)){20}){10})*", b"(((" + b"|" * 100 + b"a){20}){10})*", b"((((|a*)){20}){10})*",
+    b"((|a){20}){10}", b"(((((|a){5}){5}){2}){2}){2}", b"((|<x a>){10}){20}", b"(a?){20}" * 10, b"((((((|a)+)+)+)+)+){20}",
+    b"(" * 30 + b"|." + b"){2}" * 7 + b")+" * 23, b"((((\\b){20}){5}){2})*", b"",
 )
 
 
@@ -63,6 +74,22 @@ class Moment(unittest.TestCase):
         self.assertEqual(self.both(b"(" * 24 + b"<x ^>" + b")*" * 24, LONG), ([1, 0, 0, -1, -1], [0]))
         self.assertEqual(self.both(b"(" * 24 + b"<x ^>" + b")+" * 24, LONG), ([1, 0, 0, 0, 0], [0]))
 
+    def test_all_matches(self):
+        for pattern in WAYS_WITHOUT_END + LARGE + MANY_ROUNDS:
+            for text in (LONG, b"b" * 128, b"a " * 64):
+                given = (list(pattern), list(text))
+                with self.subTest(pattern=pattern, text=text), within(MOMENT):
+                    self.assertGreaterEqual(all_of(*given)[0], 0)
+                    self.assertEqual(put(*given, list(b"$0")), [0] + list(text))
+
+    def test_captures_of_many_matches(self):
+        names = b"abcdefghijklmnop"
+        pattern = b"".join(b"<%c " % letter for letter in names) + b".?" + b">" * 16
+        replacing = b"".join(b"$%c" % letter for letter in names)
+        with within(MOMENT):
+            made = put(list(pattern), list(b"xy" * 64), list(replacing))
+        self.assertEqual(made, [0] + list((b"x" * 16 + b"y" * 16) * 64))
+
     def test_depth(self):
         deepest = (
             b"(" * 40 + b"a" + b")*" * 40, b"(|" * 30 + b"a" + b")*" * 30, b"(a" * 40 + b")" * 40,
@@ -74,6 +101,7 @@ class Moment(unittest.TestCase):
         try:
             for pattern in deepest:
                 self.assertEqual(find(0, list(pattern), list(LONG))[:2], [1, 0])
+                self.assertEqual(put(list(pattern), list(LONG), list(b"$0")), [0] + list(LONG))
         finally:
             sys.setrecursionlimit(limit)
 

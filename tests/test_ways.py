@@ -1,10 +1,10 @@
-"""whole and find against the document's ways themselves: all of them gone through, in their order."""
+"""The calls against the document's ways themselves: all of them gone through, in their order."""
 
 import itertools
 import random
 import unittest
 
-from toldpatterns.patterns import find, judge, whole
+from toldpatterns.patterns import all_of, find, judge, put, whole
 
 MOST_WAYS = 20000
 
@@ -115,15 +115,43 @@ def some_item(chance, depth, names):
     return atom
 
 
+def span(text, captured, name):
+    (begin, end) = captured.get(name, (None, None))
+    if begin is None:
+        return [-1, -1]
+    return [len(text[:begin].encode()), len(text[:end].encode())]
+
+
 def spans(text, captured, names):
-    answer = []
-    for name in names:
-        (begin, end) = captured.get(name, (None, None))
-        if begin is None:
-            answer += [-1, -1]
+    return [place for name in names for place in span(text, captured, name)]
+
+
+def told_match(part, text, place):
+    """What the first match from the place on captures, its own span under no name; None if there's none."""
+    for begin in range(place, len(text) + 1):
+        firsts = {}
+        for (end, captured) in Ways(text).through(part, begin, {}):
+            firsts.setdefault(end, captured)
+        if firsts:
+            return {**firsts[max(firsts)], "": (begin, max(firsts))}
+    return None
+
+
+def told_matches(part, text):
+    place = 0
+    last_end = None
+    while place <= len(text):
+        captured = told_match(part, text, place)
+        if captured is None:
+            return
+        (begin, end) = captured[""]
+        if begin == end:
+            place = end + 1
         else:
-            answer += [len(text[:begin].encode()), len(text[:end].encode())]
-    return answer
+            place = end
+        if begin < end or begin != last_end:
+            last_end = end
+            yield captured
 
 
 def told_whole(part, text, names):
@@ -134,14 +162,30 @@ def told_whole(part, text, names):
 
 
 def told_find(part, text, names, place):
-    for begin in range(place, len(text) + 1):
-        firsts = {}
-        for (end, captured) in Ways(text).through(part, begin, {}):
-            firsts.setdefault(end, captured)
-        if firsts:
-            end = max(firsts)
-            return [1] + spans(text, {"": (begin, end)}, [""]) + spans(text, firsts[end], names)
-    return [0]
+    captured = told_match(part, text, place)
+    if captured is None:
+        return [0]
+    return [1] + spans(text, captured, [""] + names)
+
+
+def told_all(matches, text):
+    return [len(matches)] + [place for captured in matches for place in span(text, captured, "")]
+
+
+def replacing_of(names):
+    """All of a match, then what each name captured, in order."""
+    return "<$0" + "".join(",$" + name for name in names) + ">"
+
+
+def told_put(matches, text, names):
+    made = ""
+    place = 0
+    for captured in matches:
+        (begin, end) = captured[""]
+        one_by_one = [captured.get(name, (0, 0)) for name in [""] + names]
+        made += text[place:begin] + "<" + ",".join(text[first:last] for (first, last) in one_by_one) + ">"
+        place = end
+    return [0] + list((made + text[place:]).encode())
 
 
 class AllWays(unittest.TestCase):
@@ -155,10 +199,13 @@ class AllWays(unittest.TestCase):
         try:
             expected = [told_whole(part, text, names)]
             expected += [told_find(part, text, names, place) for place in range(len(text) + 1)]
+            matches = list(told_matches(part, text))
+            expected += [told_all(matches, text), told_put(matches, text, names)]
         except TooMany:
             return False
         answers = [whole(pattern, given)]
         answers += [find(len(text[:place].encode()), pattern, given) for place in range(len(text) + 1)]
+        answers += [all_of(pattern, given), put(pattern, given, list(replacing_of(names).encode()))]
         self.assertEqual(answers, expected, (bytes(pattern), text))
         return True
 

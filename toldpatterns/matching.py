@@ -14,16 +14,32 @@ class Search:
     def comes_to(self, begin, end):
         return has_place(self.pattern.body.reach[begin], end)
 
-    def first_begin(self, place):
-        """The first place from the given one on that has a match; None if there's none."""
+    def first_match(self, place):
+        """Where the first match from the place on begins and ends; None if there's none."""
         for begin in range(place, self.text.end_place() + 1):
             if self.pattern.body.reach[begin] != 0:
-                return begin
+                return (begin, highest_place(self.pattern.body.reach[begin]))
         return None
 
-    def match_end(self, begin):
-        """Where the match from the place ends; there has to be one."""
-        return highest_place(self.pattern.body.reach[begin])
+    def all_matches(self):
+        """Where all matches, one behind another, begin and end."""
+        matches = []
+        last_end = None
+        found = self.first_match(0)
+        while found is not None:
+            # The last match has taken its end with it: no empty one is left there.
+            if found != (last_end, last_end):
+                matches.append(found)
+                last_end = found[1]
+            found = self.first_match(max(found[1], found[0] + 1))
+        return matches
+
+    def all_places(self):
+        """The bytes at which all matches begin and end, in turn."""
+        places = []
+        for (begin, end) in self.all_matches():
+            places.extend(self.text.in_bytes(begin, end))
+        return places
 
     def captures(self, begin, end):
         """What the first way from begin to end captures, a span for each name; there has to be such a way."""
@@ -36,3 +52,7 @@ class Search:
             else:
                 answer.extend(self.text.in_bytes(span[0], span[1]))
         return answer
+
+    def spans(self, begin, end):
+        """The span of the match from begin to end, then its names'."""
+        return self.text.in_bytes(begin, end) + self.captures(begin, end)

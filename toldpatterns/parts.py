@@ -60,20 +60,21 @@ class Row:
     def __init__(self, steps):
         self.steps = steps
         self.reach = []
+        # How far it comes yet, when 0, 1, .. steps are done.
+        self.reach_after = []
 
     def measure(self, text):
-        self.reach = staying(text.end_place() + 1)
+        reaches = [staying(text.end_place() + 1)]
         for step in reversed(self.steps):
             step.measure(text)
-            self.reach = one_behind_other(step.reach, self.reach)
+            reaches.append(one_behind_other(step.reach, reaches[-1]))
+        self.reach_after = list(reversed(reaches))
+        self.reach = self.reach_after[0]
 
     def follow(self, place, targets, captures):
-        wanted = [targets]
-        for step in reversed(self.steps):
-            wanted.append(leading_to(wanted[-1], step.reach))
-        for step in self.steps:
-            wanted.pop()
-            place = step.follow(place, wanted[-1], captures)
+        for (done, step) in enumerate(self.steps):
+            wanted = leading_to(targets, self.reach_after[done + 1], step.reach[place])
+            place = step.follow(place, wanted, captures)
         return place
 
 
@@ -135,16 +136,20 @@ class Repetition:
         if times == self.most:
             return 0
         after = min(times + 1, len(self.reach_after) - 1)
-        wanted = self.body.reach[place] & leading_to(targets, self.reach_after[after])
+        wanted = leading_to(targets, self.reach_after[after], self.body.reach[place])
         if times < self.least:
             return wanted
         return without(wanted, only(place))
 
     def follow(self, place, targets, captures):
         times = 0
+        last = None
         wanted = self.wanted_next(times, place, targets)
         while wanted:
-            place = self.body.follow(place, wanted, captures)
+            # The same once more would capture the same once more, and there may be many times within many.
+            if last != (place, wanted):
+                last = (place, wanted)
+                place = self.body.follow(place, wanted, captures)
             times += 1
             wanted = self.wanted_next(times, place, targets)
         return place
@@ -179,12 +184,3 @@ def choice_of(rows):
     if len(rows) == 1:
         return rows[0]
     return Choice(rows)
-
-
-def repetition_of(body, atoms, least, most):
-    """The body so many times; atoms tells how many it has, written out."""
-    if atoms == 0:
-        # Such a body ends where it began, so a way goes through it once at most, or the same way again and
-        # again. Once does, and repetitions within repetitions would be more than can be gone through.
-        return Repetition(body, min(least, 1), 1)
-    return Repetition(body, least, most)

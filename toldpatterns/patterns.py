@@ -2,15 +2,13 @@
 
 from toldpatterns.faults import Fault
 from toldpatterns.matching import Search
-from toldpatterns.reading import read_pattern
+from toldpatterns.reading import names_in, read_pattern
+from toldpatterns.refusals import NO_PLACE, NOT_IN_FORM, NOT_THERE, TOO_LARGE, TOO_LONG, Refusal
+from toldpatterns.replacing import read_replacing, replaced
 from toldpatterns.texts import Text
 
 LONGEST = 128
-
-TOO_LONG = -2
-NOT_IN_FORM = -6
-NOT_THERE = -4
-NO_PLACE = -1
+LARGEST_MADE = 8192
 
 
 def judge(p):
@@ -37,14 +35,22 @@ def name(k, p):
     return [0, names[k][0], names[k][1]]
 
 
+def search_of(p, t):
+    """The search for a pattern in a text; what is too long or not in form is refused."""
+    if len(p) > LONGEST or len(t) > LONGEST:
+        raise Refusal([TOO_LONG])
+    try:
+        return Search(read_pattern(p), Text(t))
+    except Fault:
+        raise Refusal([NOT_IN_FORM]) from None
+
+
 def whole(p, t):
     """1 and the names' spans, if the pattern has a way through all of the text, else 0."""
-    if len(p) > LONGEST or len(t) > LONGEST:
-        return [TOO_LONG]
     try:
-        search = Search(read_pattern(p), Text(t))
-    except Fault:
-        return [NOT_IN_FORM]
+        search = search_of(p, t)
+    except Refusal as refusal:
+        return refusal.answer
     end = search.text.end_place()
     if not search.comes_to(0, end):
         return [0]
@@ -53,16 +59,37 @@ def whole(p, t):
 
 def find(from_byte, p, t):
     """1 and the spans of the first match not before the byte and of its names, or 0 if there's none."""
-    if len(p) > LONGEST or len(t) > LONGEST:
-        return [TOO_LONG]
     try:
-        search = Search(read_pattern(p), Text(t))
-    except Fault:
-        return [NOT_IN_FORM]
+        search = search_of(p, t)
+    except Refusal as refusal:
+        return refusal.answer
     if from_byte not in search.text.first_bytes:
         return [NO_PLACE]
-    begin = search.first_begin(search.text.first_bytes.index(from_byte))
-    if begin is None:
+    found = search.first_match(search.text.first_bytes.index(from_byte))
+    if found is None:
         return [0]
-    end = search.match_end(begin)
-    return [1] + search.text.in_bytes(begin, end) + search.captures(begin, end)
+    return [1] + search.spans(found[0], found[1])
+
+
+def all_of(p, t):
+    """How many matches there are one behind another, then their spans."""
+    try:
+        places = search_of(p, t).all_places()
+    except Refusal as refusal:
+        return refusal.answer
+    return [len(places) // 2] + places
+
+
+def put(p, t, r):
+    """0 and the text's bytes with all matches replaced by what r makes of them."""
+    if len(r) > LONGEST:
+        return [TOO_LONG]
+    try:
+        search = search_of(p, t)
+        steps = read_replacing(r, names_in(p, search.pattern.names))
+    except Refusal as refusal:
+        return refusal.answer
+    made = replaced(t, [search.spans(begin, end) for (begin, end) in search.all_matches()], steps)
+    if len(made) > LARGEST_MADE:
+        return [TOO_LARGE]
+    return [0] + made

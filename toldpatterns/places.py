@@ -55,10 +55,14 @@ def any_times_onward(reach):
     return closed
 
 
-def leading_to(targets, reach):
-    """The places from which the reach has one of the targets."""
+def leading_to(targets, reach, places):
+    """Those of the places from which the reach has one of the targets."""
+    if places == 0:
+        return 0
     leading = 0
-    for (place, places) in enumerate(reach):
-        if places & targets:
+    # No reach goes back, so from behind the last target there's none.
+    last = min(highest_place(places), highest_place(targets))
+    for place in range(lowest_place(places), last + 1):
+        if reach[place] & targets:
             leading |= 1 << place
-    return leading
+    return leading & places

@@ -2,7 +2,7 @@
 
 from toldpatterns.faults import CANNOT_STAND, ENDS_IN_WRONG_ORDER, ENDS_TOO_SOON, NAME_REFUSED
 from toldpatterns.faults import NUMBER_OUT_OF_RANGE, TOO_MANY_ATOMS, TOO_MANY_OPEN, Fault
-from toldpatterns.parts import Capture, OneValue, Standpoint, choice_of, repetition_of, row_of
+from toldpatterns.parts import Capture, OneValue, Repetition, Standpoint, choice_of, row_of
 from toldpatterns.ranges import every_value, is_just_one, just_one, listed_ranges
 from toldpatterns.scalars import scalar_at
 
@@ -39,6 +39,11 @@ def escape_ranges(sign):
     return just_one(CONTROL_VALUES.get(sign, ord(sign)))
 
 
+def names_in(given, spots):
+    """The names that stand in a pattern's bytes, each at a place and of a length."""
+    return [given[place:place + length] for (place, length) in spots]
+
+
 class Pattern:
     """A pattern without a fault: where its names stand, and what it is made of."""
 
@@ -70,7 +75,7 @@ class Bracket:
         if most is None:
             times = max(least, 1)
         body = self.rows[-1].pop()
-        self.rows[-1].append(repetition_of(body, self.last_atoms, least, most))
+        self.rows[-1].append(Repetition(body, least, most))
         self.atoms += (times - 1) * self.last_atoms
         self.last_atoms = None
 
@@ -209,7 +214,7 @@ class Reader:
 
     def keep_name(self, first_place):
         length = self.place - first_place
-        taken = [self.given[place:place + size] for (place, size) in self.names]
+        taken = names_in(self.given, self.names)
         known = self.given[first_place:self.place] in taken
         if known or length > LONGEST_NAME or len(taken) == MOST_NAMES:
             raise Fault(NAME_REFUSED, first_place)
