@@ -18,7 +18,7 @@ NODES = [(file, node) for (file, tree) in TREES.items() for node in ast.walk(tre
 
 CALLS = {
     "judge": "(p)", "name": "(k, p)", "whole": "(p, t)", "find": "(from_byte, p, t)", "all_of": "(p, t)",
-    "put": "(p, t, r)",
+    "put": "(p, t, r)", "split": "(p, t)",
 }
 
 BARRED_WORDS = re.compile(
@@ -88,7 +88,8 @@ class Interface(unittest.TestCase):
             answers += [patterns.judge(p)] + [patterns.name(k, p) for k in (0, 2)]
             for t in ([], list(b"a"), list(b"bb"), [0xFF]):
                 answers += [patterns.whole(p, t)] + [patterns.find(from_byte, p, t) for from_byte in (-1, 0, 1)]
-                answers += [patterns.all_of(p, t)] + [patterns.put(p, t, list(r)) for r in (b"$0", b"$q", b"x" * 128)]
+                answers += [patterns.all_of(p, t), patterns.split(p, t)]
+                answers += [patterns.put(p, t, list(r)) for r in (b"$0", b"$q", b"x" * 128)]
         for answer in answers:
             self.assertIs(type(answer), list)
             self.assertEqual({type(number) for number in answer}, {int})

@@ -1,10 +1,11 @@
 """Each call answers within a moment, however many ways there are, and lies only so deep within itself."""
 
+import itertools
 import sys
 import unittest
 
 from helping import within
-from toldpatterns.patterns import all_of, find, put, whole
+from toldpatterns.patterns import all_of, find, judge, name, put, split, whole
 
 # A moment is far shorter; this is for slow machines.
 MOMENT = 3
@@ -79,8 +80,8 @@ class Moment(unittest.TestCase):
             for text in (LONG, b"b" * 128, b"a " * 64):
                 given = (list(pattern), list(text))
                 with self.subTest(pattern=pattern, text=text), within(MOMENT):
-                    self.assertGreaterEqual(all_of(*given)[0], 0)
                     self.assertEqual(put(*given, list(b"$0")), [0] + list(text))
+                    self.assertEqual(split(*given)[0], all_of(*given)[0] + 1)
 
     def test_captures_of_many_matches(self):
         names = b"abcdefghijklmnop"
@@ -89,6 +90,17 @@ class Moment(unittest.TestCase):
         with within(MOMENT):
             made = put(list(pattern), list(b"xy" * 64), list(replacing))
         self.assertEqual(made, [0] + list((b"x" * 16 + b"y" * 16) * 64))
+
+    def test_longest_patterns_and_replacing_texts(self):
+        ends = (b"", b"a", b"{", b"}", b"[a", b"|", b"*", b"\\", b"<z", b"\xf0\x9f")
+        pieces = (b"a", b"(", b"()", b"[^a]", b"[", b"\\", b"|", b"<a >", b"<", b"a{20}", b"a{", b"9", b"$", b"$$", b"$a", b"\xc3\xa9")
+        for (piece, end) in itertools.product(pieces, ends):
+            given = list((piece * 128 + end)[-128:])
+            with self.subTest(piece=piece, end=end), within(MOMENT):
+                fault = judge(given)
+                self.assertIn(name(0, given)[0], (0, -4, -6))
+                self.assertIn(put(list(b"<a a>"), list(LONG), given)[0], (0, -5, -9))
+                self.assertEqual(split(given, list(LONG)) == [-6], fault[0] == -6)
 
     def test_depth(self):
         deepest = (
@@ -100,8 +112,15 @@ class Moment(unittest.TestCase):
         sys.setrecursionlimit(depth() + 200)
         try:
             for pattern in deepest:
-                self.assertEqual(find(0, list(pattern), list(LONG))[:2], [1, 0])
-                self.assertEqual(put(list(pattern), list(LONG), list(b"$0")), [0] + list(LONG))
+                given = (list(pattern), list(LONG))
+                self.assertIn(judge(given[0]), ([0], [16]))
+                self.assertIn(name(0, given[0]), ([0, 1, 1], [-4]))
+                self.assertIn(whole(*given)[0], (0, 1))
+                self.assertEqual(find(0, *given)[:2], [1, 0])
+                self.assertEqual(put(*given, list(b"$0")), [0] + list(LONG))
+                self.assertEqual(split(*given)[0], all_of(*given)[0] + 1)
+            self.assertEqual(judge(list(b"(" * 128)), [-6, 5, 40])
+            self.assertEqual(put(list(b"<a .>"), list(LONG), list(b"$a" * 64)), [0] + list(LONG) * 64)
         finally:
             sys.setrecursionlimit(limit)
 

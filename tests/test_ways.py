@@ -4,7 +4,7 @@ import itertools
 import random
 import unittest
 
-from toldpatterns.patterns import all_of, find, judge, put, whole
+from toldpatterns.patterns import all_of, find, judge, put, split, whole
 
 MOST_WAYS = 20000
 
@@ -172,6 +172,13 @@ def told_all(matches, text):
     return [len(matches)] + [place for captured in matches for place in span(text, captured, "")]
 
 
+def told_split(matches, text):
+    ends = [0] + [captured[""][1] for captured in matches]
+    begins = [captured[""][0] for captured in matches] + [len(text)]
+    parts = [span(text, {"": part}, "") for part in zip(ends, begins)]
+    return [len(parts)] + [place for part in parts for place in part]
+
+
 def replacing_of(names):
     """All of a match, then what each name captured, in order."""
     return "<$0" + "".join(",$" + name for name in names) + ">"
@@ -200,12 +207,13 @@ class AllWays(unittest.TestCase):
             expected = [told_whole(part, text, names)]
             expected += [told_find(part, text, names, place) for place in range(len(text) + 1)]
             matches = list(told_matches(part, text))
-            expected += [told_all(matches, text), told_put(matches, text, names)]
+            expected += [told_all(matches, text), told_put(matches, text, names), told_split(matches, text)]
         except TooMany:
             return False
         answers = [whole(pattern, given)]
         answers += [find(len(text[:place].encode()), pattern, given) for place in range(len(text) + 1)]
         answers += [all_of(pattern, given), put(pattern, given, list(replacing_of(names).encode()))]
+        answers += [split(pattern, given)]
         self.assertEqual(answers, expected, (bytes(pattern), text))
         return True
 

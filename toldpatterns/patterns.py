@@ -93,3 +93,12 @@ def put(p, t, r):
     if len(made) > LARGEST_MADE:
         return [TOO_LARGE]
     return [0] + made
+
+
+def split(p, t):
+    """How many parts there are before, between and behind the matches, then their spans."""
+    try:
+        places = search_of(p, t).all_places()
+    except Refusal as refusal:
+        return refusal.answer
+    return [len(places) // 2 + 1, 0] + places + [len(t)]
