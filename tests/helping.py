@@ -1,7 +1,19 @@
 """What more than one file of tests needs."""
 
 import contextlib
+import itertools
 import signal
+
+
+# A pattern and a text, of which one is too long; and of which one is not in form.
+TOO_LONG_PAIRS = (
+    (b"a" * 129, b""), (b"a", b"a" * 129), (b"(", b"a" * 129), (b"(" * 129, b"\xff"), (b"a", b"\xff" * 129),
+    (b"a" * 1000, b"a" * 1000),
+)
+FAULTY_PATTERNS = (b"(", b"a)", b"*", b"a{21}", b"<a b><a c>", b"(" * 41, b"[b-a]", b"(a{20}){11}", b"\x80")
+FAULTY_TEXTS = (b"\xff", b"a\xed\xa0\x80", b"aa\xc3", b"\xc0\x80", b"\xf4\x90\x80\x80")
+FAULTY_PAIRS = tuple(itertools.product(FAULTY_PATTERNS, (b"a", b"\xff"))) + tuple(
+    itertools.product((b"a", b""), FAULTY_TEXTS))
 
 
 class Unchangeable(list):

@@ -2,7 +2,7 @@
 
 import unittest
 
-from helping import Unchangeable
+from helping import FAULTY_PAIRS, TOO_LONG_PAIRS, Unchangeable
 from toldpatterns.patterns import all_of, split
 
 
@@ -91,20 +91,12 @@ class Refusals(SplitCase):
 
     def test_too_long(self):
         self.answers(b"a" * 128, b"a" * 128, [2, 0, 0, 128, 128])
-        self.answers(b"a" * 129, b"", [-2])
-        self.answers(b"a", b"a" * 129, [-2])
-        self.answers(b"(", b"a" * 129, [-2])
-        self.answers(b"(" * 129, b"\xff", [-2])
-        self.answers(b"a", b"\xff" * 129, [-2])
-        self.answers(b"a" * 1000, b"a" * 1000, [-2])
+        for (pattern, text) in TOO_LONG_PAIRS:
+            self.answers(pattern, text, [-2])
 
     def test_not_in_form(self):
-        for pattern in (b"(", b"a)", b"*", b"a{21}", b"<a b><a c>", b"(" * 41, b"[b-a]", b"(a{20}){11}", b"\x80"):
-            self.answers(pattern, b"a", [-6])
-            self.answers(pattern, b"\xff", [-6])
-        for text in (b"\xff", b"a\xed\xa0\x80", b"aa\xc3", b"\xc0\x80", b"\xf4\x90\x80\x80"):
-            self.answers(b"a", text, [-6])
-            self.answers(b"", text, [-6])
+        for (pattern, text) in FAULTY_PAIRS:
+            self.answers(pattern, text, [-6])
 
 
 class EachCallByItself(SplitCase):
